@@ -1,0 +1,1 @@
+"""Programs over lists that share: see runs.answers."""

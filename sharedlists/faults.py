@@ -1,0 +1,17 @@
+"""The faults, by their numbers: 1 to 5 of a text, 6 to 12 of a run."""
+
+NO_FAULT = 0
+
+NO_WORD = 1
+WRONG_SHAPE = 2
+UNKNOWN_NAME = 3
+NAME_TAKEN = 4
+NUMBER_BEYOND = 5
+
+TOO_FEW_VALUES = 6
+WRONG_KIND = 7
+NO_VALUE = 8
+DIVIDED_BY_ZERO = 9
+TOO_MANY_UNDER_WAY = 10
+TOO_MANY_WORDS = 11
+TOO_MUCH_SAID = 12
