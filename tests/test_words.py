@@ -210,10 +210,6 @@ class AtAFault(unittest.TestCase):
         self.assertEqual(taken[1], [0, 1, 2, 6, 2])
         self.assertEqual(taken[2:], [taken[1]] * 3)
 
-    def test_the_variable_stays(self):
-        taken = ask(begin("7 !a @a !b !a"), go(), said())
-        self.assertEqual(taken[1], [0, 4, 2, 6, 11])
-
 
 class Deciding(unittest.TestCase):
     def test_if(self):
