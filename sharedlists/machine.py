@@ -1,7 +1,7 @@
 """A run of a program: what it has, where it stands, and how it goes on."""
 
 from sharedlists.faults import NO_FAULT, TOO_FEW_VALUES, TOO_MANY_WORDS, WRONG_KIND
-from sharedlists.things import CELL, NUMBER, Cells
+from sharedlists.things import CELL, NUMBER, ZERO, Cells
 from sharedlists.words import ACTIONS
 
 MOST_CARRIED_OUT = 3000
@@ -18,10 +18,13 @@ class Run:
     def __init__(self, program):
         self.program = program
         self.cells = Cells()
-        # Both are changed by the methods below alone, so that what becomes and ceases to be alive
-        # passes through there.
+        # Both are changed by the methods below alone, as these tell the cells what holds them.
         self.stack = []
-        self.variables = [(NUMBER, 0) for variable in range(VARIABLES)]
+        self.variables = [ZERO for variable in range(VARIABLES)]
+        self.variables_not_zero = 0
+        # What the word being carried out has taken. It's let go of behind the word: most words give it
+        # again, and a long list isn't to be let go of and held anew each time.
+        self.taken = []
         # For each procedure under way the index of the word behind its name.
         self.under_way = []
         self.output = []
@@ -30,9 +33,12 @@ class Run:
         # Where the run goes on when the word at its position has been carried out.
         self.following = 0
         self.fault = NO_FAULT
+        # How much was alive at the fullest moment; at the beginning it's nothing.
+        self.fullest = 0
 
     def give(self, value):
         """Puts a value on the stack."""
+        self.cells.hold(value)
         self.stack.append(value)
 
     def take(self, many):
@@ -41,10 +47,25 @@ class Run:
         for place in range(many):
             taken.append(self.stack.pop())
         taken.reverse()
+        self.taken.extend(taken)
         return taken
 
     def change_variable(self, variable, value):
+        """A variable becomes a value."""
+        before = self.variables[variable]
+        self.cells.hold(value)
+        self.taken.append(before)
         self.variables[variable] = value
+        if before != ZERO:
+            self.variables_not_zero -= 1
+        if value != ZERO:
+            self.variables_not_zero += 1
+
+    def let_go_of_taken(self):
+        """What was taken is gone, where it wasn't given again."""
+        for value in self.taken:
+            self.cells.let_go(value)
+        self.taken = []
 
     def from_top(self, place):
         """The value at a place of the stack, the top's being 0."""
@@ -69,6 +90,11 @@ def place_of_next(run):
     return run.program.places[run.position]
 
 
+def alive(run):
+    """How much is alive, each cell once."""
+    return len(run.stack) + run.variables_not_zero + len(run.under_way) + run.cells.held
+
+
 def go_on(run, most):
     """Carries out so many words, or fewer if the run ends before."""
     left = most
@@ -86,6 +112,8 @@ def carry_out(run):
     else:
         run.carried_out += 1
         run.position = run.following
+        run.let_go_of_taken()
+        run.fullest = max(run.fullest, alive(run))
 
 
 def try_word(run):

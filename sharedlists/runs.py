@@ -1,7 +1,7 @@
 """The calls: a program that is begun, gone on with and looked at."""
 
 from sharedlists.faults import NO_FAULT
-from sharedlists.machine import AT_FAULT, Run, go_on, place_of_next, standing
+from sharedlists.machine import AT_END, AT_FAULT, VARIABLES, Run, alive, go_on, place_of_next, standing
 from sharedlists.shapes import Program, Reading, read_all
 from sharedlists.things import MOST_SAID, saying
 
@@ -61,6 +61,35 @@ def top(session, numbers):
     return value_answer(run, run.from_top(numbers[0]))
 
 
+def var(session, numbers):
+    run = session.run
+    if not is_short(numbers[0], VARIABLES - 1):
+        return [NOT_AS_TOLD]
+    return value_answer(run, run.variables[numbers[0]])
+
+
+def state(session, numbers):
+    run = session.run
+    answered = [DONE, len(run.stack), len(run.under_way), run.cells.how_many_made()]
+    answered.extend([alive(run), run.fullest, len(run.output)])
+    answered.append(0 if standing(run) == AT_END else place_of_next(run) + 1)
+    return answered
+
+
+def alike(session, numbers):
+    run = session.run
+    if not all([is_short(number, len(run.stack) - 1) for number in numbers]):
+        return [NOT_AS_TOLD]
+    one = run.from_top(numbers[0])
+    other = run.from_top(numbers[1])
+    return [DONE, 1 if run.cells.are_alike(one, other) else 0, 1 if one == other else 0]
+
+
+def again(session, numbers):
+    session.run = Run(session.run.program)
+    return [DONE, 0]
+
+
 def is_short(number, most):
     """Whether a number that's handed in is one from 0 to most."""
     return 0 <= number <= most
@@ -84,6 +113,10 @@ CALLS = {
     1: (1, go),
     2: (1, said),
     3: (1, top),
+    4: (1, var),
+    5: (0, state),
+    6: (2, alike),
+    7: (0, again),
 }
 
 

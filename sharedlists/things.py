@@ -9,6 +9,7 @@ NUMBER = 0
 EMPTY = 1
 CELL = 2
 
+ZERO = (0, 0)
 EMPTY_LIST = (1, 0)
 
 LOWEST = -9223372036854775808
@@ -32,14 +33,47 @@ class Cells:
         # much is far larger walked than made, so it's never walked to be held against another.
         self.shapes = []
         self.shape_numbers = {}
+        # How often each cell is held: by the stack, by variables, and by the cells held that have it as
+        # their first or rest. A cell is older than those that have it, so no round of cells holds
+        # itself, and the cells held are just those that can be come to.
+        self.holds = []
+        self.held = 0
 
     def make(self, first, rest):
-        """A new cell, as a value."""
+        """A new cell, as a value that nothing holds yet."""
         looks = (self.look(first), self.look(rest))
         self.shapes.append(self.shape_numbers.setdefault(looks, len(self.shape_numbers)))
         self.firsts.append(first)
         self.rests.append(rest)
+        self.holds.append(0)
         return (CELL, len(self.firsts) - 1)
+
+    def hold(self, value):
+        """From now on a value is held once more."""
+        waiting = [value]
+        while len(waiting) > 0:
+            thing = waiting.pop()
+            if thing[0] == CELL:
+                self.holds[thing[1]] += 1
+                if self.holds[thing[1]] == 1:
+                    self.held += 1
+                    waiting.append(self.first_of(thing))
+                    waiting.append(self.rest_of(thing))
+
+    def let_go(self, value):
+        """From now on a value is held once less."""
+        waiting = [value]
+        while len(waiting) > 0:
+            thing = waiting.pop()
+            if thing[0] == CELL:
+                self.holds[thing[1]] -= 1
+                if self.holds[thing[1]] == 0:
+                    self.held -= 1
+                    waiting.append(self.first_of(thing))
+                    waiting.append(self.rest_of(thing))
+
+    def how_many_made(self):
+        return len(self.firsts)
 
     def look(self, value):
         """What is equal of two values just if they are alike."""

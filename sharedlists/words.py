@@ -7,7 +7,7 @@ NO_FAULT.
 """
 
 from sharedlists.faults import DIVIDED_BY_ZERO, NO_FAULT, NO_VALUE, TOO_MANY_UNDER_WAY, TOO_MUCH_SAID
-from sharedlists.things import EMPTY_LIST, MOST_SAID, NUMBER, is_in_range, saying
+from sharedlists.things import EMPTY_LIST, MOST_SAID, NUMBER, ZERO, is_in_range, saying
 
 MOST_UNDER_WAY = 100
 HIGHEST_BYTE = 255
@@ -170,7 +170,7 @@ def go_to(run, target):
 
 def go_to_at_zero(run, target):
     taken = run.take(1)
-    if taken[0] == (NUMBER, 0):
+    if taken[0] == ZERO:
         run.following = target
     return NO_FAULT
 

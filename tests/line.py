@@ -23,9 +23,26 @@ def top(k=0):
     return [3, k]
 
 
+def var(x=0):
+    return [4, x if isinstance(x, int) else ord(x) - ord("a")]
+
+
+def state():
+    return [5]
+
+
+def alike(j=0, k=1):
+    return [6, j, k]
+
+
+def again():
+    return [7]
+
+
 def ask(*calls):
     """What each of the calls answers, a list each."""
     line = [number for call in calls for number in call]
+    assert len(calls) <= 400 and len(line) <= 31000, (len(calls), len(line))
     given = answers(line)
     taken = []
     place = 0

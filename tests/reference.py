@@ -6,6 +6,7 @@ nested as the text nests them and carried out by functions within functions; lis
 
 import re
 from fractions import Fraction
+from functools import lru_cache
 from math import floor
 
 PLAIN = "() dup drop swap over rot depth + - * / mod < = same pair first rest kind say put cr".split()
@@ -119,10 +120,31 @@ def said_of_rest(value):
     return "" if value == EMPTY else " . " + said_of(value)
 
 
-def are_alike(one, other):
+def are_alike(one, other, known=None):
+    known = {} if known is None else known
     if isinstance(one, Cell) and isinstance(other, Cell):
-        return one is other or are_alike(one.first, other.first) and are_alike(one.rest, other.rest)
+        asked = (id(one), id(other))
+        if asked not in known:
+            known[asked] = one is other or (are_alike(one.first, other.first, known)
+                                            and are_alike(one.rest, other.rest, known))
+        return known[asked]
     return not isinstance(one, Cell) and not isinstance(other, Cell) and one == other
+
+
+def are_same(one, other):
+    return one is other if isinstance(one, Cell) else are_alike(one, other)
+
+
+def cells_behind(values):
+    """The cells that come from values by firsts and rests, by what tells one from another."""
+    found = {}
+    left = list(values)
+    while left:
+        value = left.pop()
+        if isinstance(value, Cell) and id(value) not in found:
+            found[id(value)] = value
+            left += [value.first, value.rest]
+    return found
 
 
 class Run:
@@ -138,6 +160,10 @@ class Run:
         self.output = ""
         self.bodies = {}
         self.fault = None
+        self.made = 0
+        self.moments = [0]
+        # The place of the word that the run is broken off at, or at fault with, and 1.
+        self.following = 0
         program = self.nested(0, ())[0]
         self.stands = 1
         try:
@@ -198,6 +224,7 @@ class Run:
     def carry_out(self, index):
         """Carries out one word, and answers what an if or do has taken."""
         place, word = self.words[index]
+        self.following = place + 1
         if self.count == self.limit:
             raise Pause()
         stack, output = list(self.stack), self.output
@@ -211,6 +238,9 @@ class Run:
                 raise Fault(fault.args[0], place) from None
             raise
         self.count += 1
+        self.under_way += is_name(word) - (word in (";", "leave"))
+        self.following = 0
+        self.moments.append(self.alive())
         if word == "leave":
             raise Leave()
         if is_name(word):
@@ -219,13 +249,16 @@ class Run:
 
     def go_through(self, name):
         body, last = self.bodies[name]
-        self.under_way += 1
         try:
             self.do_all(body)
             self.carry_out(last)
         except Leave:
             pass
-        self.under_way -= 1
+
+    def alive(self):
+        """How much is alive: all that can be come to is walked anew at each moment."""
+        variables = [value for value in self.variables.values() if value != 0]
+        return len(self.stack) + len(variables) + self.under_way + len(cells_behind(self.stack + variables))
 
     def take(self, many, kinds=object):
         if len(self.stack) < many:
@@ -306,13 +339,86 @@ class Run:
         elif word == "=":
             self.stack.append(int(are_alike(*self.take(2))))
         elif word == "same":
-            a, b = self.take(2)
-            self.stack.append(int(a is b if isinstance(a, Cell) else are_alike(a, b)))
+            self.stack.append(int(are_same(*self.take(2))))
         elif word == "pair":
             self.stack.append(Cell(*self.take(2)))
+            self.made += 1
         elif word == "kind":
             value = self.take(1)[0]
             self.stack.append(2 if isinstance(value, Cell) else 1 if value == EMPTY else 0)
         else:
             cell = self.take(1, Cell)[0]
             self.stack.append(cell.first if word == "first" else cell.rest)
+
+
+@lru_cache(maxsize=100)
+def run_of(text, limit):
+    return Run(text, limit)
+
+
+def answer_of_value(value):
+    if length_of(value) > 4096:
+        return [-6]
+    bytes_said = list(said_of(value).encode())
+    return [0, len(bytes_said)] + bytes_said
+
+
+class Line:
+    """What the calls of a line answer. All that is kept is the text, and how many words were asked for."""
+
+    def __init__(self):
+        self.text = None
+        self.asked = 0
+        self.run = None
+
+    def answer(self, call):
+        number, *numbers = call
+        if number == 0:
+            return self.begin(bytes(numbers[1:]).decode("latin-1"))
+        if self.text is None:
+            return [-2]
+        self.run = run_of(self.text, self.asked)
+        return (self.go, self.said, self.top, self.var, self.state, self.alike, self.again)[number - 1](*numbers)
+
+    def begin(self, text):
+        if len(text) > 4096:
+            return [-1]
+        fault = fault_of_text(text)
+        if fault is not None:
+            return [-3, *fault]
+        self.text, self.asked = text, 0
+        return [0, len(words_of(text))]
+
+    def go(self, n):
+        if n > 3000:
+            return [-1]
+        self.asked += n
+        run = run_of(self.text, self.asked)
+        return [0, run.count, run.stands, *(run.fault or ())]
+
+    def said(self, start):
+        bytes_said = list(self.run.output.encode("latin-1"))
+        if start > len(bytes_said):
+            return [-1]
+        return [0, len(bytes_said) - start] + bytes_said[start:]
+
+    def top(self, k):
+        return answer_of_value(self.run.stack[::-1][k]) if k < len(self.run.stack) else [-1]
+
+    def var(self, x):
+        return answer_of_value(self.run.variables.get(chr(ord("a") + x), 0)) if x < 26 else [-1]
+
+    def state(self):
+        run = self.run
+        return [0, len(run.stack), run.under_way, run.made, run.moments[-1], max(run.moments), len(run.output),
+                run.following]
+
+    def alike(self, j, k):
+        values = self.run.stack[::-1]
+        if j >= len(values) or k >= len(values):
+            return [-1]
+        return [0, int(are_alike(values[j], values[k])), int(are_same(values[j], values[k]))]
+
+    def again(self):
+        self.asked = 0
+        return [0, 0]

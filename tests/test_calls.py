@@ -1,8 +1,8 @@
-"""The calls: what they answer, what they refuse, and that a run in pieces is the same run."""
+"""The calls begin, go, said and top: what they answer, what they refuse; that a run in pieces is the same run."""
 
 import unittest
 
-from line import ask, begin, go, row, said, text_of, top
+from line import alike, ask, begin, go, row, said, state, text_of, top, var
 from sharedlists.runs import answers
 
 BIGGEST = 4294967295
@@ -180,11 +180,14 @@ class WhereverTheyStand(unittest.TestCase):
             found = []
             for place in self.PLACES:
                 text = place.format(words)
-                taken = ask(begin(text), go(), said(), *[top(k) for k in range(9)])
+                taken = ask(begin(text), go(), state(), said(), var("q"), var("r"), alike(0, 1),
+                            *[top(k) for k in range(9)])
                 stands = taken[1][2:4]
                 if len(taken[1]) == 5:
                     stands.append(taken[1][4] - place.index("{}"))
-                found.append([stands] + taken[2:])
+                # How many values stand on the stack, how many cells were made, how many bytes were said.
+                counts = [taken[2][1], taken[2][3], taken[2][6]]
+                found.append([stands, counts] + taken[3:])
             for other in found[1:]:
                 self.assertEqual(other, found[0], words)
 

@@ -2,7 +2,7 @@
 
 import unittest
 
-from line import ask, begin, fault_of_run, go, output, said, stack, text_of, top
+from line import ask, begin, fault_of_run, go, output, said, stack, text_of, top, var
 
 # Each cell's first and rest are one and the same, so what's said of it doubles at every turn.
 DOUBLED = "{} 0 while dup {} < do swap dup pair swap 1 + end drop "
@@ -103,6 +103,7 @@ class TooLongToSay(unittest.TestCase):
         self.assertIn(len(value), (4096, 4097))
         taken = ask(begin(text), go(), top(0), go(0), said())
         self.assertEqual(taken[1][2], 1)
+        self.assertEqual(ask(begin(text + "!q"), go(), var("q"))[2], taken[2])
         if len(value) == 4096:
             self.assertEqual(text_of(taken[2]), value)
             self.assertEqual(output(text + "say"), value)
