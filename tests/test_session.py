@@ -51,6 +51,10 @@ class Refused(unittest.TestCase):
         self.assertEqual(taken[3:7], [[0, 1, 1], [-1], [-1], [-1]])
         self.assertEqual(taken[8:], [[0, 0, 0], [0, 1, 1]] + [[-1]] * 5)
 
+    def test_numbers_below_zero(self):
+        calls = (go(-1), said(-1), top(-1), var(-1), alike(-1, 0), alike(0, -1))
+        self.assertEqual(ask(begin("1 dup say"), go(), *calls, state())[2:], [[-1]] * 6 + [[0, 1, 0, 0, 1, 2, 1, 0]])
+
 
 class Var(unittest.TestCase):
     def test_each_variable(self):
